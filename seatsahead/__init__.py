@@ -1,0 +1,1 @@
+"""Places for the values of programs whose steps run in no told order."""
