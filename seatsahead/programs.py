@@ -13,7 +13,7 @@ class Program:
         place = _first_bad_pair(steps, [*reads, *waits])
         if place is not None:
             raise BadPair(place)
-        _check_names(steps, kept)
+        check_names(steps, kept)
         self._steps = tuple(steps)
         self._reads = _pairs_in_order(reads)
         self._waits = _pairs_in_order(waits)
@@ -84,30 +84,31 @@ class Program:
 
 def all_ends(program):
     """The ascending pairs (one, other) of which one has surely ended ahead of other."""
-    follow = _followers(program)
+    follow = followers(program.steps, program.reads + program.waits)
     return tuple(sorted([
         (one, other)
         for one in program.steps
-        for other in _reached(follow, one)
+        for other in reached(follow, one)
         if one != other
     ]))
 
 
 def surely_ended(program, one, other):
     """Whether one has surely ended ahead of other."""
-    _check_names(program.steps, (one, other))
-    return one != other and other in _reached(_followers(program), one)
+    check_names(program.steps, (one, other))
+    follow = followers(program.steps, program.reads + program.waits)
+    return one != other and other in reached(follow, one)
 
 
 def readers(program, value):
     """The set of the steps that read this value."""
-    _check_names(program.steps, (value,))
+    check_names(program.steps, (value,))
     return tuple([other for one, other in program.reads if one == value])
 
 
 def with_wait(program, one, other):
     """The Program in which other waits for one, too."""
-    _check_names(program.steps, (one, other))
+    check_names(program.steps, (one, other))
     # The new pair comes last, so BadPair tells the number of the pairs ahead of it.
     waits = program.waits + ((one, other),)
     return Program(program.steps, program.reads, waits, program.kept)
@@ -115,7 +116,7 @@ def with_wait(program, one, other):
 
 def without_wait(program, one, other):
     """The Program in which other does not wait for one; what it reads stays."""
-    _check_names(program.steps, (one, other))
+    check_names(program.steps, (one, other))
     if (one, other) not in program.waits:
         return program
     waits = [pair for pair in program.waits if pair != (one, other)]
@@ -127,10 +128,50 @@ def with_kept(program, value):
     return Program(program.steps, program.reads, program.waits, program.kept + (value,))
 
 
-def _check_names(steps, names):
+def check_names(steps, names):
+    """Raises NoStep for the first of these names that is no step."""
     for name in names:
         if name not in steps:
             raise NoStep(name)
+
+
+def followers(steps, pairs):
+    """For each step those to which a pair leads from it."""
+    follow = {step: [] for step in steps}
+    for one, other in pairs:
+        follow[one].append(other)
+    return follow
+
+
+def reached(follow, start):
+    """What a chain leads to from start, start too; each with the one ahead of it in a chain."""
+    ahead = {start: start}
+    waiting = [start]
+    while waiting:
+        step = waiting.pop()
+        for other in follow[step]:
+            if other not in ahead:
+                ahead[other] = step
+                waiting.append(other)
+    return ahead
+
+
+def chain_to(follow, start, goal):
+    """A chain from start to goal, both too; None if there is none."""
+    ahead = reached(follow, start)
+    if goal not in ahead:
+        return None
+    chain = [goal]
+    while chain[-1] != start:
+        chain.append(ahead[chain[-1]])
+    return tuple(chain[::-1])
+
+
+def in_order(steps, pairs):
+    """The steps, each behind all from which a chain of pairs without rounds leads to it."""
+    follow = followers(steps, pairs)
+    # What is ahead of a step reaches the step and all that the step reaches: more than the step does.
+    return [step for _, step in sorted([(-len(reached(follow, step)), step) for step in steps])]
 
 
 def _pairs_in_order(pairs):
@@ -141,27 +182,7 @@ def _first_bad_pair(steps, pairs):
     """The place of the first pair that can't stand behind those ahead of it, or None."""
     follow = {step: [] for step in steps}
     for place, (one, other) in enumerate(pairs):
-        if one not in follow or other not in follow or one in _reached(follow, other):
+        if one not in follow or other not in follow or one in reached(follow, other):
             return place
         follow[one].append(other)
     return None
-
-
-def _followers(program):
-    follow = {step: [] for step in program.steps}
-    for one, other in [*program.reads, *program.waits]:
-        follow[one].append(other)
-    return follow
-
-
-def _reached(follow, start):
-    """The steps to which a chain leads from start, and start itself, as a dict of True."""
-    reached = {start: True}
-    waiting = [start]
-    while waiting:
-        step = waiting.pop()
-        for other in follow[step]:
-            if other not in reached:
-                reached[other] = True
-                waiting.append(other)
-    return reached
