@@ -1,6 +1,6 @@
 """Sets of values that can meet two by two, that never meet, and that all live at one moment."""
 
-from seatsahead.meets import all_dead, deeds_to, leads_to
+from seatsahead.meets import all_apart, deeds_to, leads_to
 from seatsahead.programs import all_ends, check_names, readers
 from seatsahead.things import is_set_of
 
@@ -8,16 +8,15 @@ from seatsahead.things import is_set_of
 def is_lot(program, some):
     """Whether each two of these values can meet."""
     check_names(program.steps, some)
-    dead = all_dead(program)
-    return not any([(one, other) in dead for one in some for other in some])
+    apart = all_apart(program)
+    return not any([(one, other) in apart for one in some for other in some])
 
 
 def is_row(program, some):
     """Whether of each two of these values one is dead ahead of the other one."""
     check_names(program.steps, some)
-    dead = all_dead(program)
-    pairs = [(one, other) for one in some for other in some if one < other]
-    return all([(one, other) in dead or (other, one) in dead for one, other in pairs])
+    apart = all_apart(program)
+    return all([(one, other) in apart for one in some for other in some if one != other])
 
 
 def great_lots(program):
@@ -65,20 +64,20 @@ def is_run_to_moment(program, some, thing):
 
 def all_lots(program):
     """All LOTS."""
-    dead = {pair: True for pair in all_dead(program)}
+    apart = all_apart(program)
 
     def joins(some, value):
-        return not any([(one, value) in dead or (value, one) in dead for one in some])
+        return not any([(one, value) in apart for one in some])
 
     return _grown(program, joins)
 
 
 def all_rows(program):
     """All ROWS."""
-    dead = {pair: True for pair in all_dead(program)}
+    apart = all_apart(program)
 
     def joins(some, value):
-        return all([(one, value) in dead or (value, one) in dead for one in some])
+        return all([(one, value) in apart for one in some])
 
     return _grown(program, joins)
 

@@ -13,8 +13,7 @@ def dead_ahead(program, one, other):
 def can_meet(program, one, other):
     """Whether both values can live at one moment of some RUN."""
     check_names(program.steps, (one, other))
-    dead = all_dead(program)
-    return (one, other) not in dead and (other, one) not in dead
+    return (one, other) not in all_apart(program)
 
 
 def all_dead(program):
@@ -30,10 +29,9 @@ def all_dead(program):
 
 def all_meets(program):
     """The ascending pairs of unlike values, each ascending, that can meet."""
-    dead = {pair: True for pair in all_dead(program)}
+    apart = all_apart(program)
     steps = program.steps
-    pairs = [(one, other) for one in steps for other in steps if one < other]
-    return tuple([(one, other) for one, other in pairs if (one, other) not in dead and (other, one) not in dead])
+    return tuple([(one, other) for one in steps for other in steps if one < other and (one, other) not in apart])
 
 
 def chains_for(program, one, other):
@@ -63,6 +61,12 @@ def is_run_to_meet(program, one, other, thing):
     """Whether thing is a beginning behind which both values live."""
     check_names(program.steps, (one, other))
     return leads_to(program, (one, other), thing)
+
+
+def all_apart(program):
+    """The pairs of values that never meet, each told both ways, as a dict of True."""
+    dead = all_dead(program)
+    return {pair: True for pair in [*dead, *[(other, one) for one, other in dead]]}
 
 
 def deeds_to(program, some):

@@ -4,9 +4,8 @@ from seatsahead.errors import BadDeed, NoNumber, NoPlace
 from seatsahead.programs import check_names, readers
 from seatsahead.things import are_deeds
 
-# The stages of a step; each of its deeds leads from one stage to the next one.
+# Each deed of a step leads from one of its stages to the next one; between these two it is at work.
 NOT_BEGUN = 0
-AT_WORK = 1
 ENDED = 2
 STAGE_AHEAD = {"begin": 0, "end": 1}
 

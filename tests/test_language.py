@@ -159,6 +159,33 @@ def call_faults(node, own, line):
             yield "L7", line
 
 
+def set_faults(tree):
+    """L24: a set that is written down stands in sorted or len, behind in, or beside another one."""
+    holders = {}
+    for node in ast.walk(tree):
+        for child in ast.iter_child_nodes(node):
+            holders[child] = node
+    for node in ast.walk(tree):
+        made = isinstance(node, ast.Call) and isinstance(node.func, ast.Name) and node.func.id == "set"
+        if made or isinstance(node, (ast.Set, ast.SetComp)):
+            holder = holders[node]
+            call = isinstance(holder, ast.Call) and isinstance(holder.func, ast.Name)
+            if not (call and holder.func.id in ("sorted", "len") or isinstance(holder, (ast.Compare, ast.BinOp))):
+                yield "L24", node.lineno
+
+
+def imports_of(tree):
+    return [node.module for node in ast.walk(tree) if isinstance(node, ast.ImportFrom)]
+
+
+def round_of(imports):
+    """The names of files that import from one another, also through other files."""
+    found = {(one, other) for one in imports for other in imports[one]}
+    for middle in imports:
+        found |= {(one, other) for one, near in found if near == middle for far, other in found if far == middle}
+    return sorted(one for one, other in found if one == other)
+
+
 def own_names(trees):
     """What the package defines itself: functions, methods, classes and attributes that are assigned."""
     own = set()
@@ -174,6 +201,7 @@ def own_names(trees):
 def faults(path, text, tree, own):
     yield from text_faults(path, text)
     yield from top_faults(tree)
+    yield from set_faults(tree)
     methods = [item for node in ast.walk(tree) if isinstance(node, ast.ClassDef) for item in node.body]
     for node in ast.walk(tree):
         yield from node_faults(node, own)
@@ -201,6 +229,20 @@ class TestLanguage(unittest.TestCase):
             with self.subTest(file=path.name):
                 self.assertEqual(list(faults(path, texts[path], tree, own)), [])
 
+    def test_no_two_files_import_from_each_other(self):
+        imports = {f"seatsahead.{path.stem}": imports_of(ast.parse(path.read_text(encoding="utf-8")))
+                   for path in files() if path.suffix == ".py"}
+        self.assertEqual(round_of(imports), [])
+        self.assertEqual(round_of({"a": ["b"], "b": ["c", "d"], "c": ["a"], "d": []}), ["a", "b", "c"])
+
+    def test_each_name_that_is_imported_is_used(self):
+        for path in files():
+            if path.suffix == ".py":
+                tree = ast.parse(path.read_text(encoding="utf-8"))
+                told = {name.name for node in ast.walk(tree) if isinstance(node, ast.ImportFrom) for name in node.names}
+                used = {node.id for node in ast.walk(tree) if isinstance(node, ast.Name)}
+                self.assertEqual(told - used, set(), path.name)
+
     def test_no_line_gives_a_warning(self):
         with warnings.catch_warnings():
             warnings.simplefilter("error")
@@ -215,6 +257,7 @@ class TestLanguage(unittest.TestCase):
             "L7": "def go(x):\n    return x / 2", "L8": "def go(x):\n    return chr(x)",
             "L10": "def go():\n" + "    pass\n" * 40, "L12": "def go():\n    __a = 1",
             "L14": "# \u00e9", "L15": "def go(id):\n    pass", "L17": "def go(x):\n    return x.mro",
+            "L24": "def go(x):\n    y = set(x)\n    return sorted({a for a in x}), y",
             "L19": "def go():\n    try:\n        pass\n    except TypeError:\n        pass",
             "L20": "def go():\n    return 1 is 2", "L25": "def go(x):\n    return x.issubset(x)",
             "L27": "A = '%'",

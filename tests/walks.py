@@ -226,3 +226,59 @@ def some_sizes(program):
     yield tuple(range(1, many + 1))
     yield tuple(place * 7 % 5 for place in range(many))
     yield tuple(10 ** 29 + place if place % 2 else 3 - place % 3 for place in range(many))
+
+
+@lru_cache(maxsize=None)
+def layouts_of_text(text):
+    program = Program.of(text)
+    pairs = [pair for pair in combinations(program.steps, 2) if meets(program, *pair)]
+    ways = product(*[(pair, pair[::-1]) for pair in pairs])
+    return sorted(tuple(sorted(way)) for way in ways if not goes_round(way))
+
+
+def layouts_by_walk(program):
+    """All LAYOUTS, ascending: all directions of the pairs that can meet, without rounds."""
+    return layouts_of_text(program.text)
+
+
+def reach(pairs):
+    """The pairs (one, other) of which a chain of pairs leads from one to other."""
+    found = set(pairs)
+    names = sorted({name for pair in pairs for name in pair})
+    for middle, one, other in product(names, repeat=3):
+        if (one, middle) in found and (middle, other) in found:
+            found.add((one, other))
+    return found
+
+
+def goes_round(pairs):
+    return any(one == other for one, other in reach(pairs))
+
+
+def piles_by_walk(program, layout):
+    """All PILES, ascending."""
+    found = [()] + [(value,) for value in program.steps]
+    for pile in found[1:]:
+        found += longer(layout, pile)
+    return sorted(found)
+
+
+def longer(layout, pile):
+    found = [(*pile, high) for low, high in layout if low == pile[-1]]
+    return found + [more for other in found for more in longer(layout, other)]
+
+
+def need_by(program, layout, sizes):
+    return max(sum_by(program, sizes, pile) for pile in piles_by_walk(program, layout))
+
+
+def partings_of(some):
+    """All ways to part these values into sets, each an ascending tuple of such."""
+    if some == ():
+        return [()]
+    found = []
+    for parting in partings_of(some[1:]):
+        found.append(tuple(sorted([some[:1], *parting])))
+        for place, part in enumerate(parting):
+            found.append(tuple(sorted([*parting[:place], (some[0], *part), *parting[place + 1:]])))
+    return sorted(found)
