@@ -1,9 +1,10 @@
 """Layouts: of each two values that can meet, which one lies below; and the places by sizes."""
 
-from seatsahead.errors import BadLayout, OtherSteps
+from seatsahead.errors import BadLayout
 from seatsahead.lots import all_rows
 from seatsahead.meets import all_meets
 from seatsahead.programs import followers, in_order, reached
+from seatsahead.sizes import check_count
 from seatsahead.things import are_pairs_of, are_steps, is_ascending
 
 
@@ -81,8 +82,8 @@ def great_piles(program, layout):
 
 def clashes(program, sizes, places):
     """The set of the ascending pairs of values that can meet and have a unit in common."""
-    _check_counts(program, sizes)
-    _check_counts(program, places)
+    check_count(program, sizes)
+    check_count(program, places)
     begins = dict(zip(program.steps, places))
     ends = {value: begins[value] + size for value, size in zip(program.steps, sizes)}
     return tuple([
@@ -155,7 +156,7 @@ def _all_piles(program, pairs):
 def _ends_and_piles(program, layout, sizes):
     """For each value where it ends, and a PILE with it on top whose SIZES come to this."""
     pairs = checked_layout(program, layout)
-    _check_counts(program, sizes)
+    check_count(program, sizes)
     size = dict(zip(program.steps, sizes))
     found = {}
     for value in in_order(program.steps, pairs):
@@ -167,8 +168,3 @@ def _ends_and_piles(program, layout, sizes):
 def _highest(program, layout, sizes):
     """The NEED, and a PILE whose SIZES come to it."""
     return max(list(_ends_and_piles(program, layout, sizes).values()), default=(0, ()))
-
-
-def _check_counts(program, numbers):
-    if len(numbers) != len(program):
-        raise OtherSteps()

@@ -1,8 +1,8 @@
 """Sets of values that can meet two by two, that never meet, and that all live at one moment."""
 
-from seatsahead.meets import all_apart, deeds_to, leads_to
+from seatsahead.meets import all_apart, all_dead, deeds_to, leads_to
 from seatsahead.programs import all_ends, check_names, readers
-from seatsahead.things import is_set_of
+from seatsahead.things import is_ascending, is_set_of
 
 
 def is_lot(program, some):
@@ -100,6 +100,28 @@ def is_told_lot(program, thing):
 def is_told_row(program, thing):
     """Whether thing, which may be any value, is a ROW."""
     return is_set_of(program.steps, thing) and is_row(program, thing)
+
+
+def least_parting(program, values):
+    """These values in as few LOTS as can be: an ascending tuple."""
+    dead = all_dead(program)
+    parts = []
+    rest = sorted(values)
+    # Each part takes those that no other one left is dead ahead of: the longest ROW left gets shorter.
+    while rest:
+        part = tuple([value for value in rest if not any([(one, value) in dead for one in rest])])
+        parts.append(part)
+        rest = [value for value in rest if value not in part]
+    return tuple(sorted(parts))
+
+
+def is_parting(program, values, number, thing):
+    """Whether thing, which may be any value, are these values in at most so many LOTS, ascending, none of them ()."""
+    if not isinstance(thing, tuple) or not all([is_set_of(program.steps, part) for part in thing]):
+        return False
+    if sorted([value for part in thing for value in part]) != sorted(values) or () in thing:
+        return False
+    return len(thing) <= number and is_ascending(thing) and all([is_lot(program, part) for part in thing])
 
 
 def _grown(program, joins):

@@ -1,6 +1,6 @@
 """How great the values are together: at the moments of runs, and as LOTS."""
 
-from seatsahead.errors import BadDeed
+from seatsahead.errors import BadDeed, OtherSteps
 from seatsahead.lots import all_lots, all_moments, is_told_lot
 from seatsahead.meets import deeds_to
 from seatsahead.programs import check_names
@@ -99,6 +99,12 @@ def is_best_order(program, sizes, thing):
     except BadDeed:
         return False
     return peak(program, run, sizes) == least_peak(program, sizes)
+
+
+def check_count(program, numbers):
+    """Raises OtherSteps if there are not as many numbers as STEPS."""
+    if len(numbers) != len(program):
+        raise OtherSteps()
 
 
 def _sums_by_moment(program, run, sizes):

@@ -3,11 +3,11 @@
 from math import gcd
 
 from seatsahead.layouts import all_layouts, checked_layout, great_piles, is_pile, need
-from seatsahead.lots import is_lot, is_told_row
-from seatsahead.meets import all_apart, all_dead
+from seatsahead.lots import is_parting, is_told_row, least_parting
+from seatsahead.meets import all_apart
 from seatsahead.programs import chain_to, followers, in_order, reached
 from seatsahead.sizes import is_sizes, lots_of
-from seatsahead.things import is_ascending, is_pair, is_set_of
+from seatsahead.things import is_pair
 
 
 def waste(program, layout):
@@ -48,7 +48,7 @@ def is_row_in_pile(program, layout, number, thing):
 
 def partings(program, layout, number):
     """All great PILES, each parted into at most so many LOTS; None if one can't be."""
-    pairs = tuple([(pile, _least_parting(program, pile)) for pile in great_piles(program, layout)])
+    pairs = tuple([(pile, least_parting(program, pile)) for pile in great_piles(program, layout)])
     return pairs if all([len(parting) <= number for _, parting in pairs]) else None
 
 
@@ -59,7 +59,7 @@ def is_partings(program, layout, number, thing):
         return False
     if [pile for pile, _ in thing] != piles:
         return False
-    return all([_is_parting(program, pile, number, parting) for pile, parting in thing])
+    return all([is_parting(program, pile, number, parting) for pile, parting in thing])
 
 
 def sizes_against(program, layout, number):
@@ -114,24 +114,3 @@ def _pile_through(program, pairs, row):
     for low, high in zip(row, row[1:]):
         pile.extend(chain_to(above, low, high)[1:])
     return tuple(pile)
-
-
-def _least_parting(program, pile):
-    """The values of this PILE in as few LOTS as can be."""
-    dead = all_dead(program)
-    parts = []
-    rest = sorted(pile)
-    # Each part takes those that no other one left is dead ahead of: the longest ROW left gets shorter.
-    while rest:
-        part = tuple([value for value in rest if not any([(one, value) in dead for one in rest])])
-        parts.append(part)
-        rest = [value for value in rest if value not in part]
-    return tuple(sorted(parts))
-
-
-def _is_parting(program, pile, number, thing):
-    if not isinstance(thing, tuple) or not all([is_set_of(program.steps, part) for part in thing]):
-        return False
-    if sorted([value for part in thing for value in part]) != sorted(pile) or () in thing:
-        return False
-    return len(thing) <= number and is_ascending(thing) and all([is_lot(program, part) for part in thing])

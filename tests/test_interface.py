@@ -112,6 +112,53 @@ FUNCTIONS = {
         "are_places": ["program", "thing"],
         "in_each_lot": ["program"],
     },
+    "loss": {
+        "lost_lot": ["program"],
+        "never_lost": ["program"],
+        "is_lost_lot": ["program", "thing"],
+        "loss_of": ["program", "lot"],
+        "least_loss": ["program"],
+        "cover_of": ["program", "lot"],
+        "is_cover_of": ["program", "lot", "thing"],
+        "lossy_sizes": ["program"],
+        "is_lossy_sizes": ["program", "thing"],
+    },
+    "compare": {
+        "lot_row": ["one", "other"],
+        "is_lot_row": ["one", "other", "thing"],
+        "lot_factor": ["one", "other"],
+        "lot_row_of": ["one", "other", "number"],
+        "lot_partings": ["one", "other", "number"],
+        "is_lot_partings": ["one", "other", "number", "thing"],
+        "lot_sizes": ["one", "other", "number"],
+        "is_lot_sizes": ["one", "other", "number", "thing"],
+        "moment_against": ["one", "other"],
+        "is_moment_against": ["one", "other", "thing"],
+        "never_worse": ["one", "other"],
+        "alike_worst": ["one", "other"],
+        "same_meets": ["one", "other"],
+    },
+    "straight": {
+        "is_order": ["program", "thing"],
+        "lives": ["program", "order"],
+        "alive_at": ["program", "order", "place"],
+        "together": ["program", "order"],
+        "straight_program": ["program", "order"],
+        "peak_of": ["program", "order", "sizes"],
+        "elder_below": ["program", "order"],
+        "first_free": ["program", "order", "sizes"],
+        "room_of": ["program", "order", "sizes"],
+        "together_apart": ["program", "one", "other"],
+        "orders_factor": ["program", "one", "other"],
+        "is_together_apart": ["program", "one", "other", "thing"],
+    },
+    "rounds": {
+        "chain_behind": ["rounds", "one", "other", "gap"],
+        "meets_behind": ["rounds", "one", "other", "gap"],
+        "are_enough": ["rounds", "value", "number"],
+        "enough_to": ["rounds", "value", "most"],
+        "least_copies": ["rounds", "value", "most"],
+    },
     "texts": {
         "steps_text": ["steps"],
         "pairs_text": ["pairs"],
@@ -127,6 +174,9 @@ CLASSES = {
     "programs": {
         "Program": ["__init__", "of", "steps", "reads", "waits", "kept", "text",
                     "__len__", "__contains__", "__eq__"],
+    },
+    "rounds": {
+        "Rounds": ["__init__", "program", "reads_on", "waits_on", "__eq__"],
     },
 }
 
@@ -159,3 +209,9 @@ class TestInterface(unittest.TestCase):
         self.assertIs(told["steps"].default, inspect.Parameter.empty)
         self.assertEqual(list(inspect.signature(program.of).parameters), ["text"])
         self.assertIsInstance(vars(program)["of"], staticmethod)
+
+    def test_the_arguments_of_rounds(self):
+        told = inspect.signature(importlib.import_module("seatsahead.rounds").Rounds).parameters
+        self.assertEqual(list(told), ["program", "reads_on", "waits_on"])
+        self.assertEqual([told[name].default for name in ("reads_on", "waits_on")], [(), ()])
+        self.assertIs(told["program"].default, inspect.Parameter.empty)

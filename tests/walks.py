@@ -176,17 +176,28 @@ def is_dead(program, one, other):
     return one not in program.kept and all((user, other) in ends for user in users)
 
 
+@lru_cache(maxsize=None)
+def lots_of_text(text):
+    met = meets_of_text(text)
+    return [some for some in subsets(Program.of(text).steps) if all(pair in met for pair in combinations(some, 2))]
+
+
 def lots_by_walk(program):
-    return [some for some in subsets(program.steps) if all(meets(program, *pair) for pair in combinations(some, 2))]
+    return list(lots_of_text(program.text))
 
 
 def rows_by_walk(program):
     return [some for some in subsets(program.steps) if not any(meets(program, *two) for two in combinations(some, 2))]
 
 
+@lru_cache(maxsize=None)
+def moments_of_text(text):
+    lives = great(all_lives(Program.of(text)))
+    return [some for some in subsets(Program.of(text).steps) if any(set(some) <= set(values) for values in lives)]
+
+
 def moments_by_walk(program):
-    lives = all_lives(program)
-    return [some for some in subsets(program.steps) if any(set(some) <= set(values) for values in lives)]
+    return list(moments_of_text(program.text))
 
 
 def great(sets):
