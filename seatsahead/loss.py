@@ -121,11 +121,12 @@ def _solved(lot, bars):
     Tells this sum, the unit, the weights, and how often each of the bars is to be taken such that each value
     is in so many as the unit is, and they are just so many as the sum is. All are whole numbers.
     """
-    # The simplex method: a line for each bar, with the slack that it leaves to the unit, and one for the sum.
-    # Variables are the weights, then the slacks; a line is that of the variable that it tells, a column
-    # that of the one it is told by, which is 0 for now. All entries are to be divided by the unit.
+    # The simplex method. Variables are the weights of the values, then what each bar leaves of the unit.
+    # The table has a line for each variable that the others tell, at first what the bars leave, and at the
+    # end one for the sum; and a column for each variable that is 0 for now, at first the weights, and at
+    # the end one for what the line comes to. All entries are to be divided by the unit.
     many = len(lot)
-    table = [[*[1 if value in bar else 0 for value in lot], 1] for bar in bars] + [[*[-1 for _ in lot], 0]]
+    table = [[1 if value in bar else 0 for value in lot] + [1] for bar in bars] + [[-1 for _ in lot] + [0]]
     columns = list(range(many))
     lines = list(range(many, many + len(bars)))
     unit = 1
@@ -136,10 +137,15 @@ def _solved(lot, bars):
         table = _turned(table, line, column, unit)
         lines[line], columns[column], unit = columns[column], lines[line], pivot
         column = _entering(table, columns)
-    told = {variable: row[many] for variable, row in zip(lines, table)}
-    taken = {variable: entry for variable, entry in zip(columns, table[-1])}
-    weights = [told.get(place, 0) for place in range(many)]
-    return table[-1][many], unit, weights, [taken.get(many + place, 0) for place in range(len(bars))]
+    weights = {variable: row[many] for variable, row in zip(lines, table)}
+    # Where a bar leaves nothing, what the sum would lose if it had to leave something tells how often it counts.
+    counts = dict(zip(columns, table[-1]))
+    return (
+        table[-1][many],
+        unit,
+        [weights.get(place, 0) for place in range(many)],
+        [counts.get(many + place, 0) for place in range(len(bars))],
+    )
 
 
 def _entering(table, columns):
@@ -151,13 +157,12 @@ def _entering(table, columns):
 
 def _leaving(table, lines, column):
     """The line that bounds the variable of this column most; of several that of the first variable."""
-    best = None
-    for place, variable in enumerate(lines):
-        if table[place][column] > 0:
-            if best is not None:
-                more = table[place][-1] * table[best][column] - table[best][-1] * table[place][column]
-            if best is None or more < 0 or (more == 0 and variable < lines[best]):
-                best = place
+    bounding = [place for place in range(len(lines)) if table[place][column] > 0]
+    best = bounding[0]
+    for place in bounding[1:]:
+        more = table[place][-1] * table[best][column] - table[best][-1] * table[place][column]
+        if more < 0 or (more == 0 and lines[place] < lines[best]):
+            best = place
     return best
 
 

@@ -103,5 +103,5 @@ def _gaps_over(rounds, one, other, most):
         return []
     users = [(step, 0) for step in (one, *readers(rounds.program, one))]
     users = users + [(step, gap) for value, step, gap in rounds.reads_on if value == one]
-    found = {step: _behind(rounds, step, most) for step in sorted({step for step, _ in users})}
+    found = {step: _behind(rounds, step, most) for step in sorted({user for user, _ in users})}
     return [gap for gap in range(most + 1) if all([(other, gap - ahead) in found[step] for step, ahead in users])]

@@ -159,6 +159,17 @@ FUNCTIONS = {
         "enough_to": ["rounds", "value", "most"],
         "least_copies": ["rounds", "value", "most"],
     },
+    "added": {
+        "are_rows": ["program", "rows"],
+        "forced_ends": ["program", "rows"],
+        "with_rows": ["program", "rows"],
+        "parted_by": ["program", "one", "other"],
+        "is_idle_wait": ["program", "one", "other"],
+        "fewest_waits": ["program", "rows"],
+    },
+    "desk": {
+        "answers": ["text"],
+    },
     "texts": {
         "steps_text": ["steps"],
         "pairs_text": ["pairs"],
@@ -178,6 +189,50 @@ CLASSES = {
     "rounds": {
         "Rounds": ["__init__", "program", "reads_on", "waits_on", "__eq__"],
     },
+    "changes": {
+        "Watch": ["__init__", "program", "sizes", "most", "told", "wait", "free", "keep", "let_go", "size", "back", "twin",
+                  "__len__", "__eq__"],
+    },
+    "board": {
+        "Board": ["__init__", "names", "deeds", "put", "drop", "rename", "let_wait", "let_run", "hold", "undo", "twin",
+                  "can_meet", "room_for", "never_worse", "lot_factor", "__len__", "__contains__", "__getitem__", "__eq__"],
+    },
+}
+# The arguments of the methods, behind the object.
+METHODS = {
+    "changes": {
+        "Watch": {
+            "wait": ["one", "other"],
+            "free": ["one", "other"],
+            "keep": ["value"],
+            "let_go": ["value"],
+            "size": ["value", "number"],
+            "back": [],
+            "twin": [],
+        },
+    },
+    "board": {
+        "Board": {
+            "put": ["name", "program"],
+            "drop": ["name"],
+            "rename": ["name", "new"],
+            "let_wait": ["name", "one", "other"],
+            "let_run": ["name", "one", "other"],
+            "hold": ["name", "value"],
+            "undo": [],
+            "twin": [],
+            "can_meet": ["name", "one", "other"],
+            "room_for": ["name", "sizes"],
+            "never_worse": ["name", "to"],
+            "lot_factor": ["name", "to"],
+        },
+    },
+}
+# The errors with the attributes that they keep.
+ERRORS = {
+    "BadDeed": ["place"], "BadLayout": ["place"], "BadLine": ["number"], "BadPair": ["place"], "BadText": ["piece"],
+    "Known": ["name"], "NoNumber": ["number"], "NoPlace": ["number"], "NoProgram": ["name"], "NoStep": ["name"],
+    "NothingDone": [], "OtherSteps": [],
 }
 
 
@@ -200,6 +255,28 @@ class TestInterface(unittest.TestCase):
                 with self.subTest(file=file, name=name):
                     self.assertEqual(getattr(module, name).__module__, module.__name__)
                     self.assertEqual(set(members) - set(vars(getattr(module, name))), set())
+
+    def test_methods_take_these_arguments(self):
+        for file, classes in METHODS.items():
+            module = importlib.import_module(f"seatsahead.{file}")
+            for name, methods in classes.items():
+                for method, arguments in methods.items():
+                    with self.subTest(file=file, name=name, method=method):
+                        told = inspect.signature(vars(getattr(module, name))[method]).parameters
+                        self.assertEqual(list(told)[1:], arguments)
+
+    def test_the_errors_stand_in_their_file(self):
+        module = importlib.import_module("seatsahead.errors")
+        for name, arguments in ERRORS.items():
+            error = getattr(module, name)
+            self.assertEqual((error.__bases__, error.__module__), ((module.SeatError,), module.__name__))
+            self.assertEqual(list(inspect.signature(error).parameters), arguments)
+        self.assertEqual(module.SeatError.__bases__, (ValueError,))
+
+    def test_the_arguments_of_a_watch_and_a_board(self):
+        watch = importlib.import_module("seatsahead.changes").Watch
+        self.assertEqual(list(inspect.signature(watch).parameters), ["program", "sizes"])
+        self.assertEqual(list(inspect.signature(importlib.import_module("seatsahead.board").Board).parameters), [])
 
     def test_the_arguments_of_a_program(self):
         program = importlib.import_module("seatsahead.programs").Program

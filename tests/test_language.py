@@ -102,6 +102,8 @@ def node_faults(node, own):
         yield from constant_faults(node, line)
     elif isinstance(node, ast.BinOp) and isinstance(node.op, (ast.Div, ast.MatMult)):
         yield "L7", line
+    elif isinstance(node, ast.Set) and any(isinstance(item, ast.Starred) for item in node.elts):
+        yield "L7", line
     elif isinstance(node, ast.Name):
         yield from name_faults(node.id, isinstance(node.ctx, ast.Store), line)
     elif isinstance(node, ast.arg):
@@ -157,6 +159,12 @@ def call_faults(node, own, line):
     if isinstance(node.func, ast.Name) and node.func.id in TAKES_A_LIST:
         if any(isinstance(given, ast.GeneratorExp) for given in node.args):
             yield "L7", line
+    for given in node.args:
+        if isinstance(given, ast.Starred) and not isinstance(given.value, (ast.Name, ast.Attribute, ast.List, ast.Tuple)):
+            yield "L7", line
+        library = isinstance(node.func, ast.Name) and node.func.id in LIBRARY["math"].split()
+        if isinstance(given, ast.Starred) and library:
+            yield "L7", line
 
 
 def set_faults(tree):
@@ -172,6 +180,19 @@ def set_faults(tree):
             call = isinstance(holder, ast.Call) and isinstance(holder.func, ast.Name)
             if not (call and holder.func.id in ("sorted", "len") or isinstance(holder, (ast.Compare, ast.BinOp))):
                 yield "L24", node.lineno
+
+
+def binding_faults(tree):
+    """L15: what is bound in a function has the name of no class and no import of its file."""
+    taken = {name.name for node in tree.body if isinstance(node, ast.ImportFrom) for name in node.names}
+    taken |= {node.name for node in tree.body if isinstance(node, ast.ClassDef)}
+    nested = [inner for node in ast.walk(tree) if isinstance(node, ast.FunctionDef) for inner in ast.walk(node)
+              if isinstance(inner, ast.FunctionDef) and inner is not node]
+    for node in ast.walk(tree):
+        bound = isinstance(node, ast.Name) and isinstance(node.ctx, ast.Store) and node.id
+        bound = isinstance(node, ast.arg) and node.arg or node in nested and node.name or bound
+        if bound in taken:
+            yield "L15", node.lineno
 
 
 def imports_of(tree):
@@ -202,6 +223,7 @@ def faults(path, text, tree, own):
     yield from text_faults(path, text)
     yield from top_faults(tree)
     yield from set_faults(tree)
+    yield from binding_faults(tree)
     methods = [item for node in ast.walk(tree) if isinstance(node, ast.ClassDef) for item in node.body]
     for node in ast.walk(tree):
         yield from node_faults(node, own)
@@ -249,6 +271,20 @@ class TestLanguage(unittest.TestCase):
             for path in files():
                 if path.suffix == ".py":
                     compile(path.read_text(encoding="utf-8"), path.name, "exec")
+
+    def test_stars_that_may_not_stand(self):
+        for text in ("def go(x):\n    return len({*x})", "def go(x):\n    return go(*x[1:])", "def go(x):\n    return go(*go(x))",
+                     "def go(x):\n    return gcd(*x)"):
+            self.assertIn("L7", [number for number, _ in faults(PACKAGE, text, ast.parse(text), set())])
+        for text in ("def go(x):\n    return [*x, 1]", "def go(x):\n    return go(1, *x)", "def go(x):\n    return max(*x.y)"):
+            self.assertEqual([number for number, _ in faults(PACKAGE, text, ast.parse(text), {"y"})], [])
+
+    def test_names_that_are_taken(self):
+        head = "from seatsahead.sizes import worst\nclass A:\n    def worst(self):\n        return worst(1)\n"
+        self.assertEqual(list(binding_faults(ast.parse(head))), [])
+        for text in ("def go(worst):\n    return 1", "def go():\n    for worst in (1, 2):\n        pass",
+                     "def go():\n    def worst():\n        return 1\n    return worst", "def go(A):\n    return 1"):
+            self.assertEqual([number for number, _ in binding_faults(ast.parse(head + text))], ["L15"])
 
     def test_a_broken_rule_is_seen(self):
         broken = {

@@ -293,3 +293,20 @@ def partings_of(some):
         for place, part in enumerate(parting):
             found.append(tuple(sorted([*parting[:place], (some[0], *part), *parting[place + 1:]])))
     return sorted(found)
+
+
+def drawn_program(draw, many):
+    """A Program of so many STEPS, drawn with draw."""
+    names = tuple(sorted(draw.sample("abcdefghijklmnopqrstuvwxyz", many)))
+    order = draw.sample(names, many)
+    reading, waiting, keeping = draw.random() * 0.6, draw.random() * 0.4, draw.random() * 0.3
+    forward = list(combinations(order, 2))
+    reads = [pair for pair in forward if draw.random() < reading]
+    waits = [pair for pair in forward if draw.random() < waiting]
+    return Program(names, reads, waits, [name for name in names if draw.random() < keeping])
+
+
+def drawn_sizes(draw, program):
+    """SIZES, drawn with draw: small ones, alike ones, great ones."""
+    some = draw.choice(((0, 1), (1,), range(5), range(1, 100), (0, 1, 10 ** 28, 10 ** 29 - 1)))
+    return tuple(draw.choice(some) for _ in program.steps)
