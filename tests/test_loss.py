@@ -35,6 +35,9 @@ LOSSY = {
     "a b c v x y z | v a; v b; v c | a x; b y; c z | -": (4, 3),
     "a b c v x y z | v a; v b; v c | a x; b y; c z | x": (4, 3),
     "a b c d e f g | a b; a f; b e; f g | - | -": (3, 2),
+    # The LOT that loses most is neither the first nor the last one of those that lie in no other.
+    "i k o p r | i o; i p | o k; p r | -": (3, 2),
+    "a e i s y z | a e; z a; z s | a y; s i; s y | e y": (3, 2),
 }
 # Of eight STEPS and more, and no walk through all beginnings.
 GREAT = {
@@ -191,6 +194,10 @@ class TestFactors(Case):
     def test_known_factors(self):
         for text, factor in {**LOSSY, **GREAT}.items():
             self.answers(factor, least_loss, Program.of(text))
+
+    def test_lowest_terms(self):
+        for numbers, want in (((4, 2), (2, 1)), ((0, 6), (0, 1)), ((6, 9, 0), (2, 3, 0)), ((5, 3), (5, 3)), ((1, 1), (1, 1))):
+            self.same(module._lowest(numbers), want)
 
     def test_lots_are_never_more_than_told(self):
         for program in others():
