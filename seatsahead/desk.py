@@ -47,8 +47,9 @@ def _request_from(number, line):
     if word not in PARTS:
         raise BadLine(number)
     parts = PARTS[word]
-    pieces = line.split(" ", len(parts))[1:]
-    if line != " ".join([word, *pieces]) or len(pieces) != len(parts):
+    # What is too much stays with the last part, or with the word itself if there are no parts.
+    first, *pieces = line.split(" ", len(parts))
+    if first != word or len(pieces) != len(parts):
         raise BadLine(number)
     try:
         return word, [_value_from(part, piece) for part, piece in zip(parts, pieces)]
